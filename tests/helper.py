@@ -41,6 +41,30 @@ def libero(team, leaving, coming):
     return [7, team, leaving, coming]
 
 
+def timeout(team):
+    return [8, team]
+
+
+def card(team, player, kind, coming=0):
+    return [9, team, player, kind, coming]
+
+
+def now():
+    return [10]
+
+
+def court(team):
+    return [11, team]
+
+
+def sheet(team):
+    return [12, team]
+
+
+def sets():
+    return [13]
+
+
 def rallies(team, many):
     return [rally(team)] * many
 
@@ -60,6 +84,11 @@ def to_set(number):
     for over in range(number - 1):
         calls += next_set(over % 2) + rallies(over % 2, 25)
     return calls
+
+
+def looks():
+    """The calls that tell all that can be seen."""
+    return [now(), court(0), court(1), sheet(0), sheet(1), sets()]
 
 
 def split(numbers):
@@ -86,6 +115,11 @@ class SheetTest(unittest.TestCase):
         """Calls one behind another, each with its answer."""
         got = ask(before + [call for call, answer in pairs])[len(before):]
         self.assertEqual(got, [answer for call, answer in pairs])
+
+    def check_refused(self, before, call, answer):
+        """The call answers that refusal, and nothing that can be seen is changed by it."""
+        self.check(before, call, [answer])
+        self.assertEqual(ask(before + [call] + looks())[-6:], ask(before + looks())[-6:])
 
     def check_server(self, before, team, player):
         """That team serves next, and that player is the one at position 1."""

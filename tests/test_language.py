@@ -52,12 +52,19 @@ class Language(unittest.TestCase):
     def test_statements_and_expressions(self):
         for where, node in self.nodes():
             self.assertIsInstance(node, STATEMENTS + EXPRESSIONS + SMALL_PARTS, where)
-            self.assertNotIsInstance(node, (ast.Div, ast.MatMult, ast.Is, ast.IsNot), where)
+            self.assertNotIsInstance(node, (ast.Div, ast.MatMult), where)
             if isinstance(node, ast.Assign):
                 self.assertEqual(len(node.targets), 1, where)
                 self.assertNotIsInstance(node.targets[0], (ast.Tuple, ast.List), where)
             if isinstance(node, ast.Constant):
                 self.assertIn(node.value.__class__, (int, str, bool, None.__class__), where)
+
+    def test_is_stands_beside_none_true_and_false_alone(self):
+        for where, node in self.nodes(ast.Compare):
+            for sign, value in zip(node.ops, node.comparators):
+                if isinstance(sign, (ast.Is, ast.IsNot)):
+                    self.assertIsInstance(value, ast.Constant, where)
+                    self.assertTrue(value.value is None or isinstance(value.value, bool), where)
 
     def test_imports_are_the_packages_own(self):
         for where, node in self.nodes(ast.ImportFrom):

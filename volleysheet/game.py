@@ -14,6 +14,7 @@ class Game:
         self.sides = sides
         self.points = [0, 0]
         self.sets_won = [0, 0]
+        self.points_of_sets = []
         self.server = 0
         self.first_server = 0
         self.playing = False
@@ -55,8 +56,14 @@ class Game:
         lead = self.points[team] - self.points[1 - team]
         return self.points[team] >= self.points_to_win() and lead >= 2
 
+    def lose_set(self, loser):
+        winner = 1 - loser
+        self.points[winner] = max(self.points_to_win(), self.points[winner], self.points[loser] + 2)
+        self.end_set(winner)
+
     def end_set(self, winner):
         self.sets_won[winner] += 1
+        self.points_of_sets.extend(self.points)
         self.points = [0, 0]
         self.playing = False
         for side in self.sides:

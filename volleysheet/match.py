@@ -1,8 +1,10 @@
 """The interface: a list of calls about one match, and the list of their answers."""
 
+from volleysheet.cards import answer_card
 from volleysheet.game import Book
 from volleysheet.opening import answer_begin, answer_lineup, answer_start
-from volleysheet.play import answer_libero, answer_rally, answer_serve, answer_sub
+from volleysheet.play import answer_libero, answer_rally, answer_serve, answer_sub, answer_timeout
+from volleysheet.views import answer_court, answer_now, answer_sets, answer_sheet
 
 BEGIN = 1
 LINEUP = 2
@@ -11,10 +13,15 @@ RALLY = 4
 SERVE = 5
 SUB = 6
 LIBERO = 7
+TIMEOUT = 8
+CARD = 9
+NOW = 10
+COURT = 11
+SHEET = 12
 
 # How many whole numbers and how many rows follow a call's number; no call has number 0.
-WHOLE_NUMBERS = (0, 0, 1, 1, 1, 2, 3, 3)
-ROWS = (0, 4, 1, 0, 0, 0, 0, 0)
+WHOLE_NUMBERS = (0, 0, 1, 1, 1, 2, 3, 3, 1, 4, 0, 1, 1, 0)
+ROWS = (0, 4, 1, 0, 0, 0, 0, 0, 0, 0, 0, 0, 0, 0)
 
 
 class Reader:
@@ -39,20 +46,44 @@ class Reader:
         return self.take(self.take_one())
 
 
-def answer_call(book, call, values, rows):
+def answer_opening(book, call, values, rows):
     if call == BEGIN:
         return answer_begin(book, rows[0], rows[1], rows[2], rows[3])
     if call == LINEUP:
         return answer_lineup(book.game, values[0], rows[0])
-    if call == START:
-        return answer_start(book.game, values[0])
+    return answer_start(book.game, values[0])
+
+
+def answer_play(game, call, values):
     if call == RALLY:
-        return answer_rally(book.game, values[0])
+        return answer_rally(game, values[0])
     if call == SERVE:
-        return answer_serve(book.game, values[0], values[1])
+        return answer_serve(game, values[0], values[1])
     if call == SUB:
-        return answer_sub(book.game, values[0], values[1], values[2])
-    return answer_libero(book.game, values[0], values[1], values[2])
+        return answer_sub(game, values[0], values[1], values[2])
+    if call == LIBERO:
+        return answer_libero(game, values[0], values[1], values[2])
+    if call == TIMEOUT:
+        return answer_timeout(game, values[0])
+    return answer_card(game, values[0], values[1], values[2], values[3])
+
+
+def answer_view(game, call, values):
+    if call == NOW:
+        return answer_now(game)
+    if call == COURT:
+        return answer_court(game, values[0])
+    if call == SHEET:
+        return answer_sheet(game, values[0])
+    return answer_sets(game)
+
+
+def answer_call(book, call, values, rows):
+    if call <= START:
+        return answer_opening(book, call, values, rows)
+    if call <= CARD:
+        return answer_play(book.game, call, values)
+    return answer_view(book.game, call, values)
 
 
 def answers(calls):

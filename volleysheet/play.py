@@ -1,9 +1,10 @@
-"""The calls within a set: rally, serve, sub, libero."""
+"""The calls within a set, but for card: rally, serve, sub, libero, timeout."""
 
 from volleysheet.checks import are_shirts, is_team
 from volleysheet.sides import SECOND_PLAYS, STARTER_NEVER_CHANGED
 
 MOST_SUBSTITUTIONS = 6
+MOST_TIMEOUTS = 2
 
 
 def play_refusal(game, team, shirts):
@@ -61,12 +62,18 @@ def change_refusal(game, team, leaving, coming):
     return 0
 
 
-def sub_may_be(side, place, coming):
-    if side.substitutions >= MOST_SUBSTITUTIONS or place.has_libero() or side.is_out(coming):
+def may_replace(side, place, coming):
+    """Whether a substitution may be in this place, a libero there left aside."""
+    if side.substitutions >= MOST_SUBSTITUTIONS or side.is_out(coming):
         return False
     if place.stage == STARTER_NEVER_CHANGED:
         return side.is_new(coming)
     return place.stage == SECOND_PLAYS and coming == place.starter
+
+
+def replace_owner(side, place, coming):
+    place.substitute(coming)
+    side.substitutions += 1
 
 
 def answer_sub(game, team, leaving, coming):
@@ -75,10 +82,9 @@ def answer_sub(game, team, leaving, coming):
         return [refusal]
     side = game.sides[team]
     place = side.place_at(side.position_of(leaving))
-    if not sub_may_be(side, place, coming):
+    if place.has_libero() or not may_replace(side, place, coming):
         return [-5]
-    place.substitute(coming)
-    side.substitutions += 1
+    replace_owner(side, place, coming)
     return [side.substitutions]
 
 
@@ -113,3 +119,14 @@ def answer_libero(game, team, leaving, coming):
         return [-5]
     side.libero_moved = True
     return [0]
+
+
+def answer_timeout(game, team):
+    refusal = play_refusal(game, team, [])
+    if refusal < 0:
+        return [refusal]
+    side = game.sides[team]
+    if side.timeouts >= MOST_TIMEOUTS:
+        return [-5]
+    side.timeouts += 1
+    return [side.timeouts]

@@ -53,6 +53,7 @@ class Side:
         self.places = []
         self.turns = 0
         self.substitutions = 0
+        self.timeouts = 0
         self.libero_moved = False
 
     def take_lineup(self, players):
@@ -66,6 +67,9 @@ class Side:
         self.places = []
         self.turns = 0
         self.substitutions = 0
+        self.timeouts = 0
+        # A set may end without a rally, and the next one knows nothing of its liberos.
+        self.libero_moved = False
 
     def go_on_by_one(self):
         self.turns = (self.turns + 1) % 6
@@ -73,6 +77,17 @@ class Side:
     def place_at(self, position):
         # The places stay in the line-up's order; going round only moves where position 1 is.
         return self.places[(position - 1 + self.turns) % 6]
+
+    def court(self):
+        """Who stands at positions 1 to 6."""
+        return [self.place_at(position).on_court() for position in range(1, 7)]
+
+    def place_of(self, number):
+        """The place where this one is on the court or a libero stands for them; None for anyone else."""
+        for place in self.places:
+            if number == place.libero or number == place.owner():
+                return place
+        return None
 
     def position_of(self, number):
         """The position, 1 to 6, of who is on the court; 0 for anyone else."""
